@@ -1,0 +1,1 @@
+"""Signs drawn by hand, taught by name."""
