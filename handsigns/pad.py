@@ -1,24 +1,35 @@
 """The pad: what is drawn on it, the signs it was taught, and the calls on it."""
 
+from handsigns.distance import Measure
+
 BEGIN = 0
 MOVE = 1
 CLEAR = 2
 ROW = 3
 TEACH = 4
 FORGET = 5
+KNOW = 6
+TAKE = 7
+BACK = 8
+TEXT = 9
+COUNT = 10
 
 NOT_THERE = -2
 FULL = -12
 OUT_OF_RANGE = -22
+NONE_NEAR = -33
+NOT_ONE_NAME = -41
 NO_DIRECTIONS = -61
 
 HIGHEST_LIMIT = 1000
 HIGHEST_PLACE = 1023
 MOST_POINTS = 64
 MOST_SIGNS = 40
+MOST_TAKEN = 100
 LONGEST_NAME = 8
 LETTER_A = 97
 LETTER_Z = 122
+BLANK = 32
 
 # A point nearer to the last kept one than this part of the size is a tremble of the hand.
 PARTS_OF_SIZE = 8
@@ -88,6 +99,7 @@ class Sign:
     def __init__(self, name, directions):
         self.name = name
         self.directions = directions
+        self.measure = Measure(directions)
 
 
 class Pad:
@@ -142,6 +154,45 @@ class Pad:
         self.signs = left
         return gone
 
+    def know(self):
+        directions = row_of(self.points)
+        if len(directions) == 0:
+            return [NO_DIRECTIONS]
+        distances = [sign.measure.distance_from(directions) for sign in self.signs]
+        least = min(distances, default=self.limit + 1)
+        if least > self.limit:
+            return [NONE_NEAR]
+        names = [sign.name for sign, distance in zip(self.signs, distances) if distance == least]
+        if any([name != names[0] for name in names]):
+            return [NOT_ONE_NAME]
+        return [least] + names[0]
+
+    def take(self):
+        answer = self.know()
+        if answer[0] < 0:
+            return answer
+        if len(self.taken) >= MOST_TAKEN:
+            return [FULL]
+        self.taken.append(answer[1:])
+        self.points = []
+        return answer
+
+    def back(self):
+        if len(self.taken) == 0:
+            return NOT_THERE
+        self.taken.pop()
+        return len(self.taken)
+
+    def text(self):
+        written = []
+        for name in self.taken:
+            written.extend(name)
+            written.append(BLANK)
+        return written
+
+    def count(self):
+        return [len(self.signs), len(self.points), len(self.taken)]
+
 
 # A place in the list moves on instead of the list getting shorter: what is handed in stays as it is.
 class Reader:
@@ -168,6 +219,10 @@ class UnknownCall(ValueError):
     pass
 
 
+def counted(numbers):
+    return [len(numbers)] + numbers
+
+
 def answer_of(pad, reader):
     call = reader.read_number()
     if call == BEGIN:
@@ -179,12 +234,21 @@ def answer_of(pad, reader):
     if call == CLEAR:
         return [pad.clear()]
     if call == ROW:
-        directions = pad.row()
-        return [len(directions)] + directions
+        return counted(pad.row())
     if call == TEACH:
         return [pad.teach(reader.read_name())]
     if call == FORGET:
         return [pad.forget(reader.read_name())]
+    if call == KNOW:
+        return pad.know()
+    if call == TAKE:
+        return pad.take()
+    if call == BACK:
+        return [pad.back()]
+    if call == TEXT:
+        return counted(pad.text())
+    if call == COUNT:
+        return pad.count()
     raise UnknownCall(f"no call has the number {call}")
 
 

@@ -4,6 +4,11 @@ from handsigns.pad import answers
 
 CLEAR = [2]
 ROW = [3]
+KNOW = [6]
+TAKE = [7]
+BACK = [8]
+TEXT = [9]
+COUNT = [10]
 HIGHEST_NUMBER = 4294967295
 
 
@@ -20,7 +25,7 @@ def draw(points):
 
 
 def named(number, name):
-    letters = list(name.encode("ascii")) if isinstance(name, str) else list(name)
+    letters = bytes_of(name) if isinstance(name, str) else list(name)
     return [number, len(letters)] + letters
 
 
@@ -57,6 +62,15 @@ def ask(calls):
     return found
 
 
+def bytes_of(text):
+    return list(text.encode("ascii"))
+
+
+def last(calls):
+    """The answer of the last of these calls."""
+    return ask(calls)[-1]
+
+
 def row_of(points):
     """The directions answered for a drawing of these points."""
     answer = ask(draw(points) + [ROW])[-1]
@@ -68,3 +82,39 @@ def row_of(points):
 def taught(names):
     """Calls that teach a stroke to the right under each of these names."""
     return [call for name in names for call in draw([(0, 0), (9, 0)]) + [teach(name)]]
+
+
+STEPS = ((1, 0), (1, 1), (0, 1), (-1, 1), (-1, 0), (-1, -1), (0, -1), (1, -1))
+
+
+def points_of(row, step=100):
+    """Points whose row is this one, a step from one to the next, as far up and to the left as they go."""
+    path = [(0, 0)]
+    for direction in row:
+        right, down = STEPS[direction]
+        path.append((path[-1][0] + right, path[-1][1] + down))
+    left = min(x for x, y in path)
+    top = min(y for x, y in path)
+    if max(max(x - left, y - top) for x, y in path) > 8:
+        raise AssertionError(f"a step is less than an eighth of the size: {row}")
+    return [((x - left) * step, (y - top) * step) for x, y in path]
+
+
+def sign(row):
+    """Calls that draw points whose row is this one."""
+    return draw(points_of(row))
+
+
+def signs(*named_rows):
+    """Calls that teach each of these rows under its name."""
+    return [call for name, row in named_rows for call in sign(row) + [teach(name)]]
+
+
+def known(distance, name):
+    """What know and take answer where what's drawn is known."""
+    return [distance] + bytes_of(name)
+
+
+def written(text):
+    """What text answers where this is the text."""
+    return [len(text)] + bytes_of(text)
